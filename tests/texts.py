@@ -1,0 +1,75 @@
+"""What the tests share: texts to begin with, and how an answer is held against DOC.md."""
+
+import unittest
+
+from flipboards.boards import judge, table
+
+SMALLEST = [
+    "table a balls 1",
+    "switch a at 0 close 1 open 1",
+    "coil a at 0 most 1 rest 1",
+    "device a by a holds a drain",
+]
+
+# Every sort of line, each with and without its optional ending.
+FULL = [
+    "table night_9 balls 8",
+    "switch t1 at 1 close 4 open 5",
+    "switch t2 at 2 close 4 open 5",
+    "switch t3 at 3 close 4 open 5",
+    "switch t4 at 4 close 4 open 5",
+    "switch t5 at 5 close 4 open 5",
+    "switch t6 at 6 close 4 open 5",
+    "switch t7 at 7 close 4 open 5",
+    "switch t8 at 8 close 4 open 5",
+    "switch hole at 20 close 4 open 5 turned",
+    "switch left at 30 close 4 open 5",
+    "switch right at 40 close 4 open 5 turned",
+    "lamp left at 10",
+    "lamp drain at 20",
+    "coil trough at 5 most 300 rest 50",
+    "coil left at 10 most 300 rest 50 hold 3",
+    "coil right at 15 most 30 rest 50",
+    "coil loop at 20 most 300 rest 50",
+    "device trough by trough holds t1 t2 t3 t4 t5 t6 t7 t8 drain",
+    "device hole by loop holds hole",
+    "kick left left for 200 till right",
+    "kick right right for 30",
+]
+
+MARK = "^"
+
+
+def text_of(lines):
+    return "".join([line + "\n" for line in lines])
+
+
+def swapped(old, *new):
+    """FULL with the line old replaced by the lines new."""
+    assert FULL.count(old) == 1, old
+    at = FULL.index(old)
+    return text_of(FULL[:at] + list(new) + FULL[at + 1:])
+
+
+def bytes_of(text):
+    return list(text.encode("latin-1"))
+
+
+class TableCase(unittest.TestCase):
+    def check_right(self, text):
+        """text is a table's; the first line tells what table has to answer."""
+        words = text.split("\n")[0].split(" ")
+        self.assertEqual(judge(bytes_of(text)), [0], text)
+        self.assertEqual(table(bytes_of(text)), [0, int(words[3])] + bytes_of(words[1]), text)
+
+    def check_fault(self, kind, text):
+        """text has the fault, told at the place of the one MARK, which isn't part of it."""
+        self.assertEqual(text.count(MARK), 1, text)
+        place = text.index(MARK)
+        self.check_fault_at(kind, place, bytes_of(text.replace(MARK, "")))
+
+    def check_fault_at(self, kind, place, text):
+        # A text may be long, so a failure shows what stands about the place alone.
+        about = bytes(text[max(place - 100, 0):place + 100])
+        self.assertEqual(judge(text), [-6, kind, place], about)
+        self.assertEqual(table(text), [-6], about)
