@@ -2,10 +2,22 @@
 
 from flipboards.faults import Fault
 from flipboards.reading import read_board
+from flipboards.telling import tell_lamps, tell_switches, tell_table
 
 MOST_BYTES = 16384
 TOO_LONG = -2
 FAULTY = -6
+
+
+def answer(text, tell):
+    """0 and what tell says of the table; or -2; or -6."""
+    if len(text) > MOST_BYTES:
+        return [TOO_LONG]
+    try:
+        board = read_board(text)
+    except Fault:
+        return [FAULTY]
+    return [0] + tell(board)
 
 
 def judge(text):
@@ -21,10 +33,14 @@ def judge(text):
 
 def table(text):
     """0, the number of balls and the bytes of the table's name; or -2; or -6."""
-    if len(text) > MOST_BYTES:
-        return [TOO_LONG]
-    try:
-        board = read_board(text)
-    except Fault:
-        return [FAULTY]
-    return [0, board.balls] + list(board.name)
+    return answer(text, tell_table)
+
+
+def switches(text):
+    """0, how many; of each its place, close, open, 1 if it's turned, else 0, its name; or -2; or -6."""
+    return answer(text, tell_switches)
+
+
+def lamps(text):
+    """0, how many; of each its place, its name; or -2; or -6."""
+    return answer(text, tell_lamps)

@@ -7,8 +7,8 @@ import pathlib
 import unittest
 
 import flipboards
-from flipboards.boards import judge, table
-from texts import FULL, SMALLEST, TableCase, bytes_of, swapped, text_of
+from flipboards.boards import judge, lamps, switches, table
+from texts import CALLS, FULL, SMALLEST, TELLING, TableCase, bytes_of, largest, swapped, text_of
 
 MOST = 16384
 
@@ -24,15 +24,16 @@ class Untouched(list):
 
 
 def samples():
-    texts = [text_of(SMALLEST), text_of(FULL), "", "\n", "table x balls 1\n", "table", text_of(FULL) + "\t\n"]
+    texts = [text_of(SMALLEST), text_of(FULL), largest()]
+    texts += ["", "\n", "table x balls 1\n", "table", text_of(FULL) + "\t\n"]
     texts += [swapped("kick right right for 30", "kick right right for 31"), "x" * MOST, "x" * (MOST + 1)]
     return [bytes_of(text) for text in texts]
 
 
 class Sizes(TableCase):
     def check_too_long(self, text):
-        self.assertEqual(judge(text), [-2])
-        self.assertEqual(table(text), [-2])
+        for call in CALLS:
+            self.assertEqual(call(text), [-2], call.__name__)
 
     def test_just_not_too_long(self):
         # No right text is as long as that, so it is one behind whose lines a fault stands.
@@ -62,10 +63,11 @@ class Sizes(TableCase):
 
 
 class Answers(TableCase):
-    def test_judge_tells_kind_and_place_and_table_does_not(self):
+    def test_judge_alone_tells_kind_and_place(self):
         text = bytes_of("table x balls 9\n")
         self.assertEqual(judge(text), [-6, 4, 14])
-        self.assertEqual(table(text), [-6])
+        for call in TELLING:
+            self.assertEqual(call(text), [-6], call.__name__)
 
     def test_name_to_the_end_without_its_count(self):
         self.assertEqual(table(bytes_of(text_of(["table abcdefghij_9 balls 1"] + SMALLEST[1:]))),
@@ -73,49 +75,51 @@ class Answers(TableCase):
 
     def test_whole_numbers_alone(self):
         for text in samples():
-            for answer in (judge(text), table(text)):
-                self.assertIs(type(answer), list)
-                self.assertEqual({type(number) for number in answer}, {int})
+            for call in CALLS:
+                answer = call(text)
+                self.assertIs(type(answer), list, call.__name__)
+                self.assertEqual({type(number) for number in answer}, {int}, call.__name__)
 
     def test_argument_by_name(self):
         self.assertEqual(judge(text=bytes_of(text_of(SMALLEST))), [0])
         self.assertEqual(table(text=bytes_of(text_of(SMALLEST))), [0, 1, 97])
+        self.assertEqual(switches(text=bytes_of(text_of(SMALLEST))), [0, 1, 0, 1, 1, 0, 1, 97])
+        self.assertEqual(lamps(text=bytes_of(text_of(SMALLEST))), [0, 0])
 
 
 class NothingKept(TableCase):
     def test_what_is_handed_in_stays_as_it_was(self):
         for text in samples():
             handed = list(text)
-            judge(handed)
-            self.assertEqual(handed, text)
-            table(handed)
-            self.assertEqual(handed, text)
+            for call in CALLS:
+                call(handed)
+                self.assertEqual(handed, text, call.__name__)
 
     def test_what_is_handed_in_is_not_changed_for_a_while(self):
         for text in samples():
-            self.assertEqual(judge(Untouched(text)), judge(text))
-            self.assertEqual(table(Untouched(text)), table(text))
+            for call in CALLS:
+                self.assertEqual(call(Untouched(text)), call(text), call.__name__)
 
     def test_same_call_same_answer(self):
-        first = [(judge(text), table(text)) for text in samples()]
+        first = [[call(text) for call in CALLS] for text in samples()]
         for again in range(2):
-            self.assertEqual([(judge(text), table(text)) for text in samples()], first)
-        back = [(judge(text), table(text)) for text in reversed(samples())]
+            self.assertEqual([[call(text) for call in CALLS] for text in samples()], first)
+        back = [[call(text) for call in reversed(CALLS)][::-1] for text in reversed(samples())]
         self.assertEqual(back[::-1], first)
 
     def test_answer_is_the_callers_own(self):
-        text = bytes_of(text_of(SMALLEST))
-        for call in (judge, table):
-            answer = call(text)
-            kept = list(answer)
-            answer.append(9)
-            self.assertEqual(call(text), kept)
+        for text in samples():
+            for call in CALLS:
+                answer = call(text)
+                kept = list(answer)
+                answer.append(9)
+                self.assertEqual(call(text), kept, call.__name__)
 
     def test_nothing_is_printed(self):
         with contextlib.redirect_stdout(io.StringIO()) as out, contextlib.redirect_stderr(io.StringIO()) as err:
             for text in samples():
-                judge(text)
-                table(text)
+                for call in CALLS:
+                    call(text)
         self.assertEqual(out.getvalue() + err.getvalue(), "")
 
     def test_nothing_from_outside_is_imported(self):

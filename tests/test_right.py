@@ -4,7 +4,7 @@ import unittest
 
 from flipboards.boards import table
 from flipboards.reading import read_board
-from texts import FULL, SMALLEST, TableCase, bytes_of, swapped, text_of
+from texts import FULL, SMALLEST, TableCase, bytes_of, largest, swapped, text_of
 
 # Of each number: the line of FULL it stands in, that line with a gap, its two bounds.
 BOUNDS = [
@@ -61,21 +61,6 @@ def told_again(board):
     lines += [coil_text(coil) for coil in board.coils.values()]
     lines += [device_text(device) for device in board.devices.values()]
     lines += [kick_text(kick) for kick in board.kicks]
-    return text_of(lines)
-
-
-def largest():
-    """As many lines of every sort as there can be, with the longest names and numbers."""
-    lines = ["table twelve_bytes balls 8"]
-    lines += [f"switch switch_no_{at:02} at {at} close 31 open 31 turned" for at in range(64)]
-    lines += [f"lamp lamp_numb_{at:02} at {at}" for at in range(64)]
-    lines += [f"coil coil_numb_{at:02} at {at} most 1023 rest 4095 hold 15" for at in range(32)]
-    for k in range(8):
-        # Seven each, so that eight switches are left for the kicks.
-        held = " ".join([f"switch_no_{at:02}" for at in range(7 * k, 7 * k + 7)])
-        lines.append(f"device device_no_{k:02} by coil_numb_{k:02} holds {held} drain")
-    for k in range(8):
-        lines.append(f"kick switch_no_{56 + k} coil_numb_{8 + k:02} for 255 till switch_no_{k:02}")
     return text_of(lines)
 
 

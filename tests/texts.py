@@ -2,7 +2,11 @@
 
 import unittest
 
-from flipboards.boards import judge, table
+from flipboards.boards import judge, lamps, switches, table
+
+# The calls that tell nothing of a fault but that there is one.
+TELLING = (table, switches, lamps)
+CALLS = (judge,) + TELLING
 
 SMALLEST = [
     "table a balls 1",
@@ -55,12 +59,60 @@ def bytes_of(text):
     return list(text.encode("latin-1"))
 
 
+def largest():
+    """As many lines of every sort as there can be, with the longest names and numbers."""
+    lines = ["table twelve_bytes balls 8"]
+    lines += [f"switch switch_no_{at:02} at {at} close 31 open 31 turned" for at in range(64)]
+    lines += [f"lamp lamp_numb_{at:02} at {at}" for at in range(64)]
+    lines += [f"coil coil_numb_{at:02} at {at} most 1023 rest 4095 hold 15" for at in range(32)]
+    for k in range(8):
+        # Seven each, so that eight switches are left for the kicks.
+        held = " ".join([f"switch_no_{at:02}" for at in range(7 * k, 7 * k + 7)])
+        lines.append(f"device device_no_{k:02} by coil_numb_{k:02} holds {held} drain")
+    for k in range(8):
+        lines.append(f"kick switch_no_{56 + k} coil_numb_{8 + k:02} for 255 till switch_no_{k:02}")
+    return text_of(lines)
+
+
+def named(name):
+    """A name as all calls but table tell it."""
+    return [len(name)] + bytes_of(name)
+
+
+def lines_of(text, sort):
+    """The words of a right text's lines of one sort."""
+    lines = [line.split(" ") for line in text.split("\n")]
+    return [words for words in lines if words[0] == sort]
+
+
+def right_table(text):
+    words = lines_of(text, "table")[0]
+    return [0, int(words[3])] + bytes_of(words[1])
+
+
+def right_switches(text):
+    lines = lines_of(text, "switch")
+    told = [0, len(lines)]
+    for words in lines:
+        told += [int(words[3]), int(words[5]), int(words[7]), int(len(words) == 9)] + named(words[1])
+    return told
+
+
+def right_lamps(text):
+    lines = lines_of(text, "lamp")
+    told = [0, len(lines)]
+    for words in lines:
+        told += [int(words[3])] + named(words[1])
+    return told
+
+
 class TableCase(unittest.TestCase):
     def check_right(self, text):
-        """text is a table's; the first line tells what table has to answer."""
-        words = text.split("\n")[0].split(" ")
+        """text is a table's; its lines tell what the calls have to answer."""
         self.assertEqual(judge(bytes_of(text)), [0], text)
-        self.assertEqual(table(bytes_of(text)), [0, int(words[3])] + bytes_of(words[1]), text)
+        self.assertEqual(table(bytes_of(text)), right_table(text), text)
+        self.assertEqual(switches(bytes_of(text)), right_switches(text), text)
+        self.assertEqual(lamps(bytes_of(text)), right_lamps(text), text)
 
     def check_fault(self, kind, text):
         """text has the fault, told at the place of the one MARK, which isn't part of it."""
@@ -72,4 +124,5 @@ class TableCase(unittest.TestCase):
         # A text may be long, so a failure shows what stands about the place alone.
         about = bytes(text[max(place - 100, 0):place + 100])
         self.assertEqual(judge(text), [-6, kind, place], about)
-        self.assertEqual(table(text), [-6], about)
+        for call in TELLING:
+            self.assertEqual(call(text), [-6], (call.__name__, about))

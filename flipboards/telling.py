@@ -1,0 +1,31 @@
+"""What stands in a table, told as lists of whole numbers, number by number."""
+
+
+def tell_name(name):
+    return [len(name)] + list(name)
+
+
+def tell_choice(chosen):
+    # An answer holds whole numbers alone, never True or False.
+    return 1 if chosen else 0
+
+
+def tell_table(board):
+    """The balls, then the name to the end: its count is told of all other names, not of this one."""
+    return [board.balls] + list(board.name)
+
+
+def tell_switches(board):
+    told = [len(board.switches)]
+    for switch in board.switches.values():
+        told.extend([switch.place, switch.to_close, switch.to_open, tell_choice(switch.turned)])
+        told.extend(tell_name(switch.name))
+    return told
+
+
+def tell_lamps(board):
+    told = [len(board.lamps)]
+    for lamp in board.lamps.values():
+        told.append(lamp.place)
+        told.extend(tell_name(lamp.name))
+    return told
