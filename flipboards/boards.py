@@ -2,7 +2,7 @@
 
 from flipboards.faults import Fault
 from flipboards.reading import read_board
-from flipboards.telling import tell_lamps, tell_switches, tell_table
+from flipboards.telling import tell_coils, tell_devices, tell_lamps, tell_switches, tell_table
 
 MOST_BYTES = 16384
 TOO_LONG = -2
@@ -44,3 +44,16 @@ def switches(text):
 def lamps(text):
     """0, how many; of each its place, its name; or -2; or -6."""
     return answer(text, tell_lamps)
+
+
+def coils(text):
+    """0, how many; of each its place, most, rest, hold (0: none told), its name; or -2; or -6."""
+    return answer(text, tell_coils)
+
+
+def devices(text):
+    """0, how many; of each its coil's place, 1 if it's a drain, else 0, its switches, its name; or -2; or -6.
+
+    The switches are told as how many there are, then their places in the text's order.
+    """
+    return answer(text, tell_devices)

@@ -29,3 +29,20 @@ def tell_lamps(board):
         told.append(lamp.place)
         told.extend(tell_name(lamp.name))
     return told
+
+
+def tell_coils(board):
+    told = [len(board.coils)]
+    for coil in board.coils.values():
+        told.extend([coil.place, coil.most, coil.rest, coil.hold])
+        told.extend(tell_name(coil.name))
+    return told
+
+
+def tell_devices(board):
+    told = [len(board.devices)]
+    for device in board.devices.values():
+        told.extend([device.coil.place, tell_choice(device.drain), len(device.switches)])
+        told.extend([switch.place for switch in device.switches])
+        told.extend(tell_name(device.name))
+    return told

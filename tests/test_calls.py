@@ -7,7 +7,7 @@ import pathlib
 import unittest
 
 import flipboards
-from flipboards.boards import judge, lamps, switches, table
+from flipboards.boards import coils, devices, judge, lamps, switches, table
 from texts import CALLS, FULL, SMALLEST, TELLING, TableCase, bytes_of, largest, swapped, text_of
 
 MOST = 16384
@@ -85,6 +85,8 @@ class Answers(TableCase):
         self.assertEqual(table(text=bytes_of(text_of(SMALLEST))), [0, 1, 97])
         self.assertEqual(switches(text=bytes_of(text_of(SMALLEST))), [0, 1, 0, 1, 1, 0, 1, 97])
         self.assertEqual(lamps(text=bytes_of(text_of(SMALLEST))), [0, 0])
+        self.assertEqual(coils(text=bytes_of(text_of(SMALLEST))), [0, 1, 0, 1, 1, 0, 1, 97])
+        self.assertEqual(devices(text=bytes_of(text_of(SMALLEST))), [0, 1, 0, 1, 1, 0, 1, 97])
 
 
 class NothingKept(TableCase):

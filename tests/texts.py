@@ -2,10 +2,10 @@
 
 import unittest
 
-from flipboards.boards import judge, lamps, switches, table
+from flipboards.boards import coils, devices, judge, lamps, switches, table
 
 # The calls that tell nothing of a fault but that there is one.
-TELLING = (table, switches, lamps)
+TELLING = (table, switches, lamps, coils, devices)
 CALLS = (judge,) + TELLING
 
 SMALLEST = [
@@ -106,6 +106,31 @@ def right_lamps(text):
     return told
 
 
+def right_coils(text):
+    lines = lines_of(text, "coil")
+    told = [0, len(lines)]
+    for words in lines:
+        hold = int(words[9]) if len(words) == 10 else 0
+        told += [int(words[3]), int(words[5]), int(words[7]), hold] + named(words[1])
+    return told
+
+
+def places_by_name(text, sort):
+    return {words[1]: int(words[3]) for words in lines_of(text, sort)}
+
+
+def right_devices(text):
+    switch_places = places_by_name(text, "switch")
+    coil_places = places_by_name(text, "coil")
+    lines = lines_of(text, "device")
+    told = [0, len(lines)]
+    for words in lines:
+        # No switch is called drain, so the word can stand at the end alone.
+        held = [switch_places[word] for word in words[5:] if word != "drain"]
+        told += [coil_places[words[3]], int("drain" in words[5:]), len(held)] + held + named(words[1])
+    return told
+
+
 class TableCase(unittest.TestCase):
     def check_right(self, text):
         """text is a table's; its lines tell what the calls have to answer."""
@@ -113,6 +138,8 @@ class TableCase(unittest.TestCase):
         self.assertEqual(table(bytes_of(text)), right_table(text), text)
         self.assertEqual(switches(bytes_of(text)), right_switches(text), text)
         self.assertEqual(lamps(bytes_of(text)), right_lamps(text), text)
+        self.assertEqual(coils(bytes_of(text)), right_coils(text), text)
+        self.assertEqual(devices(bytes_of(text)), right_devices(text), text)
 
     def check_fault(self, kind, text):
         """text has the fault, told at the place of the one MARK, which isn't part of it."""
