@@ -1,11 +1,14 @@
 """The calls: each is given a text and answers one list of whole numbers."""
 
+from flipboards.choosing import NoSuchName, NoSuchSort, tell_found
 from flipboards.faults import Fault
 from flipboards.reading import read_board
-from flipboards.telling import tell_coils, tell_devices, tell_lamps, tell_switches, tell_table
+from flipboards.telling import tell_coils, tell_devices, tell_kicks, tell_lamps, tell_switches, tell_table
 
 MOST_BYTES = 16384
+OUT_OF_BOUNDS = -1
 TOO_LONG = -2
+NOT_FOUND = -4
 FAULTY = -6
 
 
@@ -57,3 +60,21 @@ def devices(text):
     The switches are told as how many there are, then their places in the text's order.
     """
     return answer(text, tell_devices)
+
+
+def kicks(text):
+    """0, how many; of each the first switch's place, the coil's, T, the second switch's (64: none); or -2; or -6."""
+    return answer(text, tell_kicks)
+
+
+def find(sort, text, name):
+    """0, the place of the switch (sort 0), lamp (1) or coil (2) of that name, or the number of the device (3).
+
+    Or -2; or -6; or -1 if sort is above 3; or -4 if none of that sort has that name.
+    """
+    try:
+        return answer(text, lambda board: tell_found(board, sort, tuple(name)))
+    except NoSuchSort:
+        return [OUT_OF_BOUNDS]
+    except NoSuchName:
+        return [NOT_FOUND]

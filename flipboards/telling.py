@@ -1,5 +1,8 @@
 """What stands in a table, told as lists of whole numbers, number by number."""
 
+# One above the highest place of a switch.
+NO_SWITCH = 64
+
 
 def tell_name(name):
     return [len(name)] + list(name)
@@ -45,4 +48,15 @@ def tell_devices(board):
         told.extend([device.coil.place, tell_choice(device.drain), len(device.switches)])
         told.extend([switch.place for switch in device.switches])
         told.extend(tell_name(device.name))
+    return told
+
+
+def tell_till(kick):
+    return NO_SWITCH if kick.till is None else kick.till.place
+
+
+def tell_kicks(board):
+    told = [len(board.kicks)]
+    for kick in board.kicks:
+        told.extend([kick.switch.place, kick.coil.place, kick.ticks, tell_till(kick)])
     return told

@@ -7,20 +7,10 @@ import pathlib
 import unittest
 
 import flipboards
-from flipboards.boards import coils, devices, judge, lamps, switches, table
-from texts import CALLS, FULL, SMALLEST, TELLING, TableCase, bytes_of, largest, swapped, text_of
+from flipboards.boards import coils, devices, judge, kicks, lamps, switches, table
+from texts import CALLS, FULL, SMALLEST, TELLING, TableCase, Untouched, bytes_of, largest, swapped, text_of
 
 MOST = 16384
-
-
-class Untouched(list):
-    """A list that can only be read."""
-
-    def refuse(self, *args, **named):
-        raise AssertionError("what was handed in is changed")
-
-    __setitem__ = __delitem__ = __iadd__ = __imul__ = refuse
-    append = clear = extend = insert = pop = remove = reverse = sort = refuse
 
 
 def samples():
@@ -87,6 +77,7 @@ class Answers(TableCase):
         self.assertEqual(lamps(text=bytes_of(text_of(SMALLEST))), [0, 0])
         self.assertEqual(coils(text=bytes_of(text_of(SMALLEST))), [0, 1, 0, 1, 1, 0, 1, 97])
         self.assertEqual(devices(text=bytes_of(text_of(SMALLEST))), [0, 1, 0, 1, 1, 0, 1, 97])
+        self.assertEqual(kicks(text=bytes_of(text_of(SMALLEST))), [0, 0])
 
 
 class NothingKept(TableCase):

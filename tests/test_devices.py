@@ -1,4 +1,4 @@
-"""devices: of each device its coil's place, whether it's a drain, its switches' places, its name, in the text's order."""
+"""devices: of each its coil's place, whether it's a drain, its switches' places, its name, in the text's order."""
 
 import unittest
 

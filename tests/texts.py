@@ -2,10 +2,23 @@
 
 import unittest
 
-from flipboards.boards import coils, devices, judge, lamps, switches, table
+from flipboards.boards import coils, devices, find, judge, kicks, lamps, switches, table
 
-# The calls that tell nothing of a fault but that there is one.
-TELLING = (table, switches, lamps, coils, devices)
+
+def find_switch(text):
+    return find(0, text, [97])
+
+
+def find_no_name(text):
+    return find(3, text, [])
+
+
+def find_no_sort(text):
+    return find(4, text, [97])
+
+
+# The calls that tell nothing of a fault but that there is one; those with more than a text are given it here.
+TELLING = (table, switches, lamps, coils, devices, kicks, find_switch, find_no_name, find_no_sort)
 CALLS = (judge,) + TELLING
 
 SMALLEST = [
@@ -131,6 +144,42 @@ def right_devices(text):
     return told
 
 
+def right_kicks(text):
+    switch_places = places_by_name(text, "switch")
+    coil_places = places_by_name(text, "coil")
+    lines = lines_of(text, "kick")
+    told = [0, len(lines)]
+    for words in lines:
+        till = switch_places[words[6]] if len(words) == 7 else 64
+        told += [switch_places[words[1]], coil_places[words[2]], int(words[4]), till]
+    return told
+
+
+def right_finds(text):
+    """Of each sort a dict from the names that are found to what is found."""
+    devices_by_name = {words[1]: number for number, words in enumerate(lines_of(text, "device"))}
+    return [places_by_name(text, sort) for sort in ("switch", "lamp", "coil")] + [devices_by_name]
+
+
+def edge_names(text):
+    """The first and the last name of each sort, and the table's."""
+    names = []
+    for sort in ("table", "switch", "lamp", "coil", "device"):
+        lines = lines_of(text, sort)
+        names += [words[1] for words in lines[:1] + lines[-1:]]
+    return sorted(set(names))
+
+
+class Untouched(list):
+    """A list that can only be read."""
+
+    def refuse(self, *args, **named):
+        raise AssertionError("what was handed in is changed")
+
+    __setitem__ = __delitem__ = __iadd__ = __imul__ = refuse
+    append = clear = extend = insert = pop = remove = reverse = sort = refuse
+
+
 class TableCase(unittest.TestCase):
     def check_right(self, text):
         """text is a table's; its lines tell what the calls have to answer."""
@@ -140,6 +189,15 @@ class TableCase(unittest.TestCase):
         self.assertEqual(lamps(bytes_of(text)), right_lamps(text), text)
         self.assertEqual(coils(bytes_of(text)), right_coils(text), text)
         self.assertEqual(devices(bytes_of(text)), right_devices(text), text)
+        self.assertEqual(kicks(bytes_of(text)), right_kicks(text), text)
+        self.check_finds(text, edge_names(text))
+
+    def check_finds(self, text, names):
+        """Each of the names is found in each sort that has it, and in no other one."""
+        for sort, found in enumerate(right_finds(text)):
+            for name in names:
+                told = [0, found[name]] if name in found else [-4]
+                self.assertEqual(find(sort, bytes_of(text), bytes_of(name)), told, (sort, name))
 
     def check_fault(self, kind, text):
         """text has the fault, told at the place of the one MARK, which isn't part of it."""
