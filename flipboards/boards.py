@@ -1,8 +1,9 @@
-"""The calls: each is given a text and answers one list of whole numbers."""
+"""The calls: each answers one list of whole numbers."""
 
-from flipboards.choosing import NoSuchName, NoSuchSort, tell_found
+from flipboards.choosing import NoSuchChoice, NoSuchName, tell_found, tell_places
 from flipboards.faults import Fault
 from flipboards.reading import read_board
+from flipboards.squares import turned_square
 from flipboards.telling import tell_coils, tell_devices, tell_kicks, tell_lamps, tell_switches, tell_table
 
 MOST_BYTES = 16384
@@ -74,7 +75,24 @@ def find(sort, text, name):
     """
     try:
         return answer(text, lambda board: tell_found(board, sort, tuple(name)))
-    except NoSuchSort:
+    except NoSuchChoice:
         return [OUT_OF_BOUNDS]
     except NoSuchName:
         return [NOT_FOUND]
+
+
+def places(what, text):
+    """0, then rising places; or -2; or -6; or -1 if what is above 6.
+
+    what chooses the places: 0 of the switches; 1 of turned ones; 2 of the lamps; 3 of the coils; 4 of switches that
+    stand in devices; 5 of first switches of kicks; 6 of coils with a hold.
+    """
+    try:
+        return answer(text, lambda board: tell_places(board, what))
+    except NoSuchChoice:
+        return [OUT_OF_BOUNDS]
+
+
+def turn(a):
+    """0, the number whose bit 8 r + c is a's bit 8 c + r (r, c from 0 to 7)."""
+    return [0, turned_square(a)]

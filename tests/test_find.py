@@ -3,7 +3,7 @@
 import unittest
 
 from flipboards.boards import find, judge
-from texts import FULL, SMALLEST, TableCase, Untouched, bytes_of, largest, lines_of, swapped, text_of
+from texts import FAULTY, FULL, SMALLEST, TableCase, Untouched, bytes_of, largest, lines_of, swapped, text_of
 
 SORTS = ("switch", "lamp", "coil", "device")
 ABOVE = (4, 5, 255, 2 ** 31, 2 ** 32 - 1)
@@ -23,18 +23,6 @@ THREE = [
     "device d_a by c_c holds s_c",
     "device d_b by all holds s_a drain",
     "device all by c_a holds both",
-]
-
-# A text of each kind of fault, in its kind's order.
-FAULTY = [
-    text_of(THREE)[:-1],
-    text_of(THREE).replace(" balls", "  balls"),
-    text_of(THREE) + "\n",
-    text_of(THREE).replace("at 33", "at 64"),
-    text_of(THREE).replace("at 33", "at 22"),
-    text_of(THREE).replace("by all", "by both"),
-    text_of(THREE).replace("by all", "by c_c"),
-    text_of(THREE).replace("balls 1", "balls 2"),
 ]
 
 
@@ -191,7 +179,7 @@ class Refused(TableCase):
         for kind, text in enumerate(FAULTY, 1):
             self.assertEqual(judge(bytes_of(text))[:2], [-6, kind])
             for sort in tuple(range(4)) + ABOVE:
-                for name in ("all", "both", "nobody", "", "a" * 300):
+                for name in ("left", "trough", "nobody", "", "a" * 300):
                     self.assertEqual(find(sort, bytes_of(text), bytes_of(name)), [-6], (kind, sort, name))
 
     def test_fault_behind_the_part_that_is_asked_for(self):

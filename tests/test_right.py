@@ -2,8 +2,8 @@
 
 import unittest
 
+from again import told_again
 from flipboards.boards import table
-from flipboards.reading import read_board
 from texts import FULL, SMALLEST, TableCase, bytes_of, largest, swapped, text_of
 
 # Of each number: the line of FULL it stands in, that line with a gap, its two bounds.
@@ -26,42 +26,6 @@ PLACE_BOUNDS = [
     ("coil trough at 5 most 300 rest 50", "coil trough at {} most 300 rest 50", 0, 0),
     ("coil loop at 20 most 300 rest 50", "coil loop at {} most 300 rest 50", 31, 31),
 ]
-
-
-def switch_text(switch):
-    ending = " turned" if switch.turned else ""
-    return f"switch {said(switch)} at {switch.place} close {switch.to_close} open {switch.to_open}{ending}"
-
-
-def coil_text(coil):
-    ending = f" hold {coil.hold}" if coil.hold else ""
-    return f"coil {said(coil)} at {coil.place} most {coil.most} rest {coil.rest}{ending}"
-
-
-def device_text(device):
-    ending = " drain" if device.drain else ""
-    held = " ".join([said(switch) for switch in device.switches])
-    return f"device {said(device)} by {said(device.coil)} holds {held}{ending}"
-
-
-def kick_text(kick):
-    ending = f" till {said(kick.till)}" if kick.till else ""
-    return f"kick {said(kick.switch)} {said(kick.coil)} for {kick.ticks}{ending}"
-
-
-def said(part):
-    return bytes(part.name).decode("ascii")
-
-
-def told_again(board):
-    """The one text that a table has."""
-    lines = [f"table {said(board)} balls {board.balls}"]
-    lines += [switch_text(switch) for switch in board.switches.values()]
-    lines += [f"lamp {said(lamp)} at {lamp.place}" for lamp in board.lamps.values()]
-    lines += [coil_text(coil) for coil in board.coils.values()]
-    lines += [device_text(device) for device in board.devices.values()]
-    lines += [kick_text(kick) for kick in board.kicks]
-    return text_of(lines)
 
 
 class RightTexts(TableCase):
@@ -140,7 +104,7 @@ class RightTexts(TableCase):
 class OneText(TableCase):
     def test_what_is_read_is_told_by_that_text_alone(self):
         for text in (text_of(SMALLEST), text_of(FULL), largest()):
-            self.assertEqual(told_again(read_board(bytes_of(text))), text)
+            self.assertEqual(told_again(bytes_of(text)), text)
 
     def test_each_changed_byte_is_another_table_or_a_fault(self):
         text = text_of(FULL)
@@ -148,14 +112,14 @@ class OneText(TableCase):
             for sign in "\n 019az_^":
                 changed = text[:place] + sign + text[place + 1:]
                 if table(bytes_of(changed))[0] == 0:
-                    self.assertEqual(told_again(read_board(bytes_of(changed))), changed)
+                    self.assertEqual(told_again(bytes_of(changed)), changed)
 
     def test_each_byte_is_needed(self):
         text = text_of(FULL)
         for place in range(len(text)):
             changed = text[:place] + text[place + 1:]
             if table(bytes_of(changed))[0] == 0:
-                self.assertEqual(told_again(read_board(bytes_of(changed))), changed)
+                self.assertEqual(told_again(bytes_of(changed)), changed)
 
     def test_other_ways_to_tell_the_same_table(self):
         self.check_fault(4, swapped("lamp left at 10", "lamp left at ^010"))

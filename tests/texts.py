@@ -2,7 +2,8 @@
 
 import unittest
 
-from flipboards.boards import coils, devices, find, judge, kicks, lamps, switches, table
+from again import told_again
+from flipboards.boards import coils, devices, find, judge, kicks, lamps, places, switches, table
 
 
 def find_switch(text):
@@ -17,8 +18,21 @@ def find_no_sort(text):
     return find(4, text, [97])
 
 
+def places_of_switches(text):
+    return places(0, text)
+
+
+def places_of_held(text):
+    return places(4, text)
+
+
+def places_of_nothing(text):
+    return places(7, text)
+
+
 # The calls that tell nothing of a fault but that there is one; those with more than a text are given it here.
-TELLING = (table, switches, lamps, coils, devices, kicks, find_switch, find_no_name, find_no_sort)
+TELLING = (table, switches, lamps, coils, devices, kicks, find_switch, find_no_name, find_no_sort,
+           places_of_switches, places_of_held, places_of_nothing)
 CALLS = (judge,) + TELLING
 
 SMALLEST = [
@@ -66,6 +80,19 @@ def swapped(old, *new):
     assert FULL.count(old) == 1, old
     at = FULL.index(old)
     return text_of(FULL[:at] + list(new) + FULL[at + 1:])
+
+
+# A text of each kind of fault, in the order of the kinds.
+FAULTY = [
+    text_of(FULL)[:-1],
+    swapped("lamp left at 10", "lamp  left at 10"),
+    text_of(FULL) + "\n",
+    swapped("switch right at 40 close 4 open 5 turned", "switch right at 64 close 4 open 5 turned"),
+    swapped("switch right at 40 close 4 open 5 turned", "switch right at 30 close 4 open 5 turned"),
+    swapped("device hole by loop holds hole", "device hole by hole holds hole"),
+    swapped("device hole by loop holds hole", "device hole by trough holds hole"),
+    swapped("device hole by loop holds hole").replace(" t8 drain", " drain"),
+]
 
 
 def bytes_of(text):
@@ -161,6 +188,24 @@ def right_finds(text):
     return [places_by_name(text, sort) for sort in ("switch", "lamp", "coil")] + [devices_by_name]
 
 
+def right_places(text):
+    """What places has to answer, what by what."""
+    by_name = places_by_name(text, "switch")
+    switch_lines = lines_of(text, "switch")
+    coil_lines = lines_of(text, "coil")
+    held = [word for words in lines_of(text, "device") for word in words[5:] if word != "drain"]
+    told = [
+        [int(words[3]) for words in switch_lines],
+        [int(words[3]) for words in switch_lines if words[-1] == "turned"],
+        [int(words[3]) for words in lines_of(text, "lamp")],
+        [int(words[3]) for words in coil_lines],
+        [by_name[word] for word in held],
+        [by_name[words[1]] for words in lines_of(text, "kick")],
+        [int(words[3]) for words in coil_lines if "hold" in words[4:]],
+    ]
+    return [[0] + sorted(of_what) for of_what in told]
+
+
 def edge_names(text):
     """The first and the last name of each sort, and the table's."""
     names = []
@@ -190,7 +235,9 @@ class TableCase(unittest.TestCase):
         self.assertEqual(coils(bytes_of(text)), right_coils(text), text)
         self.assertEqual(devices(bytes_of(text)), right_devices(text), text)
         self.assertEqual(kicks(bytes_of(text)), right_kicks(text), text)
+        self.assertEqual([places(what, bytes_of(text)) for what in range(7)], right_places(text), text)
         self.check_finds(text, edge_names(text))
+        self.assertEqual(told_again(bytes_of(text)), text)
 
     def check_finds(self, text, names):
         """Each of the names is found in each sort that has it, and in no other one."""
